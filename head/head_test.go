@@ -30,6 +30,7 @@ func envelopes() []api.Envelope {
 		{From: 1, To: 2, Commit: api.Key{5, 31: 6}, Head: heads[1], Body: []byte("ab")},
 		{From: 7, To: 0, Commit: api.Key{9}, Head: heads[3], Body: bytes.Repeat([]byte{7}, 600)},
 		{From: 3, To: 3, Head: heads[2], Body: bytes.Repeat([]byte{0}, 256)},
+		{From: 0, To: 7, Head: heads[4], Body: []byte{255}},
 	}
 }
 

@@ -373,6 +373,22 @@ func TestAppeal(t *testing.T) {
 	p.count(t, 2, 100, 0)
 }
 
+// P24.4: each account has a bucket of its own, the first and the last one as well.
+func TestAppealOfAll(t *testing.T) {
+	p := made(t, 64)
+	for account := range 8 {
+		for id := range 3 {
+			if e := p.l.Add(account, 10*account+id, 0); e != api.OK {
+				t.Fatal(e)
+			}
+		}
+		p.appeal(t, account, 10*account, 0, api.OK)
+		p.appeal(t, account, 10*account+1, 0, api.OK)
+		p.appeal(t, account, 10*account+2, 0, api.ErrRate)
+		p.count(t, account, 0, 1)
+	}
+}
+
 // P24.4: a token that was taken remains taken.
 func TestAppealRefused(t *testing.T) {
 	p := made(t, 16)

@@ -221,6 +221,7 @@ func TestSendErrors(t *testing.T) {
 	}
 	for _, bad := range []api.Envelope{envelope(8, 1, 1), envelope(0, 8, 1), envelope(-1, 1, 1), envelope(0, 1, -1), {To: 1, Body: make([]byte, 601)}, envelope(9, 9, 1)} {
 		fails("not valid", bad, api.Key{}, -1, api.ErrArg)
+		fails("not valid", bad, api.Key{}, 0, api.ErrArg)
 	}
 	for _, a := range []int{0, 5} {
 		same := envelope(a, a, 1)

@@ -113,6 +113,8 @@ func TestOpen(t *testing.T) {
 		{1, 2, 0, 1, 0, 0, 0, 1, 0, 0},               // strike 65536 of 2 at 65536
 		append([]byte{1, 5}, make([]byte, 8)...),     // strike 0 is there already
 		append([]byte{1, 5, 0, 0, 0, 2}, 0, 0, 0, 0), // strike 2 of 5 at 0
+		{1, 1, 1, 0, 0, 30, 0, 0, 0, 9},              // no number, by its first byte alone
+		{1, 1, 0, 0, 0, 31, 1, 0, 0, 9},              // no time, by its first byte alone
 	} {
 		if e := j.Append(b); e != api.OK {
 			t.Fatal(e)
@@ -128,7 +130,7 @@ func TestOpen(t *testing.T) {
 	of(t, l, 256, 2, false, true)
 	of(t, l, 65536, 2, false, true)
 	of(t, l, 2, 5, false, true)
-	for _, id := range []int{1, 3, 20, 21, 22, 23, 24, 25, 26, 1000001, 1<<32 - 1, 0x01010101} {
+	for _, id := range []int{1, 3, 20, 21, 22, 23, 24, 25, 26, 30, 31, 1000001, 1<<32 - 1, 0x01010101} {
 		of(t, l, id, 0, false, false)
 	}
 	count(t, l, 2, 9, 1)
