@@ -32,7 +32,9 @@ func TestOrderOfKeys(t *testing.T) {
 	if w.source.Many() != src.Many() {
 		t.Error(w.source.Many(), src.Many())
 	}
-	w.Do(Op{Do: Tick, N: 25})
+	// A time whose epoch tells how many ticks one has.
+	now := 100
+	w.Do(Op{Do: Tick, N: now})
 	own[1].HasOnce = true
 	near, far := mirror(t, src, 0, own[0], own[1])
 	own[1].HasOnce = false
@@ -43,12 +45,12 @@ func TestOrderOfKeys(t *testing.T) {
 		other    *frame.Line
 		text     string
 	}{{0, 1, near, far, "first"}, {0, 1, near, far, "second"}, {1, 0, far, near, "back"}, {0, 1, near, far, "again"}} {
-		if out := w.Do(Op{Do: Send, A: c.from, B: c.to, Text: []byte(c.text)}); out.E != api.OK || out.Time != 25 {
+		if out := w.Do(Op{Do: Send, A: c.from, B: c.to, Text: []byte(c.text)}); out.E != api.OK || out.Time != now {
 			t.Fatal(i, out)
 		}
 		opening := src.Key()
 		envelope, _ := c.line.Wrap(opening, []byte(c.text))
-		mark, _ := stamps.Stamp(envelope, 25)
+		mark, _ := stamps.Stamp(envelope, now)
 		l, _ := w.relay.Mails(c.to)
 		if len(l) != 1 || !reflect.DeepEqual(l[0].E, envelope) || l[0].S != mark {
 			t.Fatal(i, l)
